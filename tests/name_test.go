@@ -831,24 +831,12 @@ func TestP46AnyOrder(t *testing.T) {
 
 // roomyNames is the same state with spare capacity behind every slice.
 func roomyNames(s impl.NamState) impl.NamState {
-	return impl.NamState{
-		Map:  append(slices.Clone(s.Map), make([]int, 9)...)[:len(s.Map)],
-		Free: append(slices.Clone(s.Free), make([]int, 9)...)[:len(s.Free)],
-		Vals: append(slices.Clone(s.Vals), make([]int, 9)...)[:len(s.Vals)],
-		Here: append(slices.Clone(s.Here), make([]bool, 9)...)[:len(s.Here)],
-	}
+	return impl.NamState{Map: withRoom(s.Map), Free: withRoom(s.Free), Vals: withRoom(s.Vals), Here: withRoom(s.Here)}
 }
 
 // wholeNames is all memory of a state, spare capacity included, as a state.
 func wholeNames(s impl.NamState) impl.NamState {
 	return impl.NamState{Map: s.Map[:cap(s.Map)], Free: s.Free[:cap(s.Free)], Vals: s.Vals[:cap(s.Vals)], Here: s.Here[:cap(s.Here)]}
-}
-
-// spoilWords writes to all of a list.
-func spoilWords(list []int) {
-	for k := range list {
-		list[k] = -7
-	}
 }
 
 // spoilNames writes to all memory of a state.
@@ -881,24 +869,10 @@ func ownSlices(t *testing.T, call func() impl.NamState) {
 	}
 }
 
-// namesApart checks that results share no memory with the argument, or with each other, spare capacity included.
+// namesApart checks that results share no memory with the argument, and that the slices of one share none with each other.
 func namesApart(t *testing.T, s impl.NamState, call func(impl.NamState) impl.NamState) {
 	t.Helper()
-	arg := roomyNames(s)
-	before := copiedNames(wholeNames(arg))
-	first, second := call(arg), call(arg)
-	want := copiedNames(first)
-	spoilNames(second)
-	if !sameNames(wholeNames(arg), before) {
-		t.Fatalf("%v: the argument is written to, or changes with the result", s)
-	}
-	if !sameNames(first, want) {
-		t.Fatalf("%v: two results share memory", s)
-	}
-	spoilNames(arg)
-	if !sameNames(first, want) {
-		t.Fatalf("%v: the result changes with the argument", s)
-	}
+	handling[impl.NamState]{sameNames, copiedNames, roomyNames, wholeNames, spoilNames}.apart(t, s, call)
 	ownSlices(t, func() impl.NamState { return call(roomyNames(s)) })
 }
 

@@ -1,7 +1,6 @@
 package tests
 
 import (
-	"math"
 	"math/rand/v2"
 	"slices"
 	"testing"
@@ -745,7 +744,7 @@ func TestP33WritesCommute(t *testing.T) {
 
 func TestP33InvalidArguments(t *testing.T) {
 	s := scene(0, impl.CodInst{Kind: impl.CodWait})
-	for _, at := range []int{math.MinInt, -256, -2, -1, 256, 257, 65535, 65536, math.MaxInt} {
+	for _, at := range notPlaces {
 		if x := impl.PlnLay(s, at, 1); !nothing(x) {
 			t.Fatalf("PlnLay(s, %d, 1) = %v", at, x)
 		}
