@@ -781,23 +781,16 @@ func spoilCache(c impl.ChcState) {
 // ownWords checks that no two slices of words of one cache share memory, spare capacity included.
 func ownWords(t *testing.T, c impl.ChcState) {
 	t.Helper()
-	all := wholeCache(c)
-	lists := [][]int{all.Mem}
-	for _, l := range all.Lines {
-		lists = append(lists, l.Words)
+	listsApart(t, wordLists(c)...)
+}
+
+// wordLists are the slices of words of a cache.
+func wordLists(c impl.ChcState) [][]int {
+	out := [][]int{c.Mem}
+	for _, l := range c.Lines[:cap(c.Lines)] {
+		out = append(out, l.Words)
 	}
-	for k, list := range lists {
-		for i := range list {
-			list[i] = k
-		}
-	}
-	for k, list := range lists {
-		for _, n := range list {
-			if n != k {
-				t.Fatalf("%v: two slices share memory", c)
-			}
-		}
-	}
+	return out
 }
 
 // cachesApart checks that results share no memory with the argument, and that the slices of one share none with each other.

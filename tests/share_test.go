@@ -48,3 +48,21 @@ func spoilWords(list []int) {
 		list[k] = -7
 	}
 }
+
+// listsApart checks that no two of the lists share memory, spare capacity included.
+func listsApart(t *testing.T, lists ...[]int) {
+	t.Helper()
+	for k, list := range lists {
+		list = list[:cap(list)]
+		for i := range list {
+			list[i] = k
+		}
+	}
+	for k, list := range lists {
+		for _, n := range list[:cap(list)] {
+			if n != k {
+				t.Fatalf("list %d shares memory with list %d", k, n)
+			}
+		}
+	}
+}
